@@ -133,7 +133,8 @@ func reckonedFar(f pair, v [2]int64) (int64, bool) {
 	y0 := w.plus(v[0], 0)
 	y1 := w.less(v[1], w.times(f.l, y0, 30))
 	first := w.by(w.times(y0, y0, 20), f.d0, 20)
-	return w.plus(first, w.by(w.times(y1, y1, 20), f.d1, 20)), w.great != which{}
+	all := w.plus(first, w.by(w.times(y1, y1, 20), f.d1, 20))
+	return all, w.great != which{}
 }
 
 // mul is the product of a and b.
